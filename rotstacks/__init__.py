@@ -1,0 +1,1 @@
+"""Stacks of sacks that rot while they wait for one pair of hands."""
