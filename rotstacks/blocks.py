@@ -3,13 +3,16 @@
 from rotstacks.sacks import sack_hours, sack_loss
 
 
-def share_sign(one, other):
+def share_gap(one, other):
     # The products stand for the quotients, which would not be whole numbers.
-    one_product = one[1] * other[0]
-    other_product = other[1] * one[0]
-    if one_product > other_product:
+    return one[1] * other[0] - other[1] * one[0]
+
+
+def share_sign(one, other):
+    gap = share_gap(one, other)
+    if gap > 0:
         return 1
-    if one_product < other_product:
+    if gap < 0:
         return -1
     return 0
 

@@ -11,3 +11,11 @@ def sack_hours(sack):
 
 def sack_loss(sack):
     return sack[2]
+
+
+def sack_share(sack):
+    return (sack_hours(sack), sack_loss(sack))
+
+
+def sacks_in_all(stacks):
+    return sum([len(stack) for stack in stacks])

@@ -27,6 +27,17 @@ BARRED_WORDS = re.compile(
     r"\b(type|typing|typing_extensions|enum|Enum|IntEnum|StrEnum|Flag|IntFlag|Generic|Protocol|ABC|ABCMeta|namedtuple"
     r"|NamedTuple|TypedDict|TYPE_CHECKING|abstractmethod)\b|dataclass|overload|contextmanager"
 )
+BARRED_NAMES = set(
+    "register mro elements open input version_info with_traceback add_note attrgetter breakpoint builtins compile "
+    "copyright credits delattr dir eval exec exit gc getattr globals hasattr help id importlib license locals "
+    "methodcaller os quit setattr super sys type vars format format_map chr".split()
+)
+KEYWORDS_ALLOWED = {
+    "sorted": ("key", "reverse"), "min": ("key", "default"), "max": ("key", "default"), "sum": ("start",),
+    "enumerate": ("start",), "zip": ("strict",),
+}
+WALKED_AT_ONCE = ("zip", "enumerate", "reversed", "range")
+WALKERS = ("list", "tuple", "dict", "sorted", "sum", "any", "all", "enumerate", "zip", "min", "max")
 
 
 def bound_names(tree):
@@ -133,6 +144,63 @@ class FormTest(unittest.TestCase):
         for place, node in self.nodes(ast.Call):
             if isinstance(node.func, ast.Attribute) and node.func.attr not in own:
                 self.assertIn(node.func.attr, METHODS_ALLOWED, place)
+
+    def test_names_and_attributes_that_are_not_used(self):
+        for place, node in self.nodes(ast.Name):
+            self.assertNotIn(node.id, BARRED_NAMES, place)
+        for place, node in self.nodes(ast.Attribute):
+            self.assertNotIn(node.attr, BARRED_NAMES, place)
+            self.assertFalse(node.attr.startswith("_") and node.attr != "__init__", place)
+
+    def test_each_name_of_a_top_once_and_for_nothing_else(self):
+        for name, tree in self.trees.items():
+            imported = [alias.name for node in tree.body if isinstance(node, ast.ImportFrom) for alias in node.names]
+            defined = [node.name for node in tree.body if isinstance(node, (ast.FunctionDef, ast.ClassDef))]
+            given = [node.targets[0].id for node in tree.body if isinstance(node, ast.Assign)]
+            top = imported + defined + given
+            self.assertEqual(len(set(top)), len(top), name)
+            methods = [part.name for node in tree.body if isinstance(node, ast.ClassDef)
+                       for part in node.body if isinstance(part, ast.FunctionDef)]
+            inner = list(bound_names(tree))
+            for bound in defined + given + methods:
+                inner.remove(bound)
+            self.assertEqual(set(inner) & set(top), set(), name)
+
+    def test_is_stands_beside_none_true_and_false_alone(self):
+        for place, node in self.nodes(ast.Compare):
+            for sign, value in zip(node.ops, node.comparators):
+                if isinstance(sign, (ast.Is, ast.IsNot)):
+                    self.assertTrue(isinstance(value, ast.Constant) and value.value in (None, True, False), place)
+
+    def test_keywords(self):
+        own = [node.name for place, node in self.nodes(ast.FunctionDef, ast.ClassDef)]
+        for place, node in self.nodes(ast.Call):
+            called = node.func.id if isinstance(node.func, ast.Name) else node.func.attr
+            if called not in own:
+                for keyword in node.keywords:
+                    self.assertIn(keyword.arg, KEYWORDS_ALLOWED.get(called, ()), place)
+
+    def test_walked_on_the_spot(self):
+        walked = [node.iter for place, node in self.nodes(ast.For, ast.comprehension)]
+        for place, node in self.nodes(ast.Call):
+            if isinstance(node.func, ast.Name) and node.func.id in WALKERS:
+                walked += node.args
+        for place, node in self.nodes(ast.Call):
+            if isinstance(node.func, ast.Name) and node.func.id in WALKED_AT_ONCE:
+                self.assertTrue(any(node is other for other in walked), place)
+
+    def test_comprehensions_have_one_for_and_at_most_one_if(self):
+        for place, node in self.nodes(ast.ListComp):
+            self.assertEqual(len(node.generators), 1, place)
+            self.assertLessEqual(len(node.generators[0].ifs), 1, place)
+
+    def test_f_strings_hold_plain_names(self):
+        for place, node in self.nodes(ast.FormattedValue):
+            self.assertIsInstance(node.value, ast.Name, place)
+            self.assertIsNone(node.format_spec, place)
+        for place, node in self.nodes(ast.Constant):
+            if isinstance(node.value, str):
+                self.assertNotIn("%", node.value, place)
 
 
 if __name__ == "__main__":
