@@ -44,11 +44,10 @@ def told_order(stacks):
     return order
 
 
-def check_known(stacks, order):
-    for at in order:
-        if at < 1 or at > len(stacks):
-            # The number is left out of the words: Python writes out no number of some thousand digits.
-            raise UnknownStack("the order holds a number that is that of no stack")
+def check_known(stacks, at):
+    if at < 1 or at > len(stacks):
+        # The number is left out of the words: Python writes out no number of some thousand digits.
+        raise UnknownStack("the number is that of no stack")
 
 
 def check_whole(stacks, order):
@@ -63,7 +62,8 @@ def check_whole(stacks, order):
 
 def check_order(stacks, order):
     # An unknown number at the last place is refused ahead of an empty stack at the first.
-    check_known(stacks, order)
+    for at in order:
+        check_known(stacks, at)
     check_whole(stacks, order)
 
 

@@ -1,9 +1,15 @@
-"""Stacks and orders for the tests, made from pairs (hours, loss) that are told from the top down."""
+"""Stacks, orders, houses and deeds for the tests, and what the words of the document make of them."""
 
 import copy
 import functools
 import itertools
 import random
+from fractions import Fraction
+
+from rotstacks.errors import (
+    BadHours, BadLoss, DeedsFull, EmptyStack, HouseFull, NothingWaits, RotError, UnknownPlace, UnknownStack,
+)
+from rotstacks.house import House
 
 # Each number from 1 to 60 once, so that no number of a sack tells where it lies.
 SCRAMBLED = tuple(37 * place % 61 for place in range(1, 61))
@@ -122,3 +128,178 @@ def parted(stack):
         parts.append(rest[:many])
         rest = rest[many:]
     return parts
+
+
+def turns_by_words(stacks):
+    """The turns by the words of the document, of blocks that were found another way."""
+    blocks = [(at, part) for at, stack in enumerate(stacks, start=1) for part in parted(stack)]
+    told = [(at, len(part)) + sums(part) for at, part in blocks]
+    return sorted(told, key=lambda turn: (-Fraction(turn[3], turn[2]), turn[0]))
+
+
+def order_by_words(stacks):
+    return [at for at, many, hours, loss in turns_by_words(stacks) for place in range(many)]
+
+
+def answer_of(function, *arguments):
+    """What is told, or the class of the refusal."""
+    try:
+        return function(*arguments)
+    except RotError as refusal:
+        return type(refusal)
+
+
+def lists_within(value):
+    """Each list in the value, itself among them, as often as it stands there."""
+    found = [value] if isinstance(value, list) else []
+    if isinstance(value, (list, tuple)):
+        for part in value:
+            found += lists_within(part)
+    return found
+
+
+class PlainHouse:
+    """A house by the words of the document, hour by hour, with nothing of the program's house in it."""
+
+    def __init__(self, many, deeds=()):
+        self.stacks = [[] for place in range(many)]
+        self.kept = []
+        self.rates = []
+        self.stretches = []
+        for deed in deeds:
+            self.do(deed)
+
+    def do(self, deed):
+        answer = getattr(self, "do_" + deed[0])(*deed[1:])
+        self.kept.append(deed)
+        return answer
+
+    def do_put(self, at, hours, loss):
+        number = 1
+        for deed in self.kept:
+            if deed[0] == "put":
+                number += 1
+        self.stacks[at - 1].insert(0, (number, hours, loss))
+        return number
+
+    def do_tell(self, at, place, loss):
+        number, hours, had = self.stacks[at - 1][place - 1]
+        self.stacks[at - 1][place - 1] = (number, hours, loss)
+        return had
+
+    def do_go(self, at):
+        return self.stacks[at - 1].pop(0)
+
+    def do_dry(self):
+        at = order_by_words(self.stacks)[0]
+        begun = len(self.rates)
+        for hour in range(self.stacks[at - 1][0][1]):
+            self.rates.append(sum(sack[2] for stack in self.stacks for sack in stack))
+        self.stretches.append((begun, len(self.rates), self.rates[-1]))
+        return self.stacks[at - 1].pop(0)
+
+    def waiting(self):
+        return sum(len(stack) for stack in self.stacks)
+
+    def due(self, deed):
+        """Each refusal that is due, in the order in which the document lists them for that deed."""
+        return [refusal for refusal, is_due in getattr(self, "due_" + deed[0])(*deed[1:]) if is_due]
+
+    def height(self, at):
+        return len(self.stacks[at - 1]) if at in range(1, len(self.stacks) + 1) else None
+
+    def due_put(self, at, hours, loss):
+        return [(UnknownStack, self.height(at) is None), (BadHours, hours not in range(1, 61)),
+                (BadLoss, loss not in range(101)), (HouseFull, self.waiting() >= 14),
+                (DeedsFull, len(self.kept) >= 60)]
+
+    def due_tell(self, at, place, loss):
+        return [(UnknownStack, self.height(at) is None), (EmptyStack, self.height(at) == 0),
+                (UnknownPlace, place not in range(1, (self.height(at) or 0) + 1)), (BadLoss, loss not in range(101)),
+                (DeedsFull, len(self.kept) >= 60)]
+
+    def due_go(self, at):
+        return [(UnknownStack, self.height(at) is None), (EmptyStack, self.height(at) == 0),
+                (DeedsFull, len(self.kept) >= 60)]
+
+    def due_dry(self):
+        return [(NothingWaits, self.waiting() == 0), (DeedsFull, len(self.kept) >= 60)]
+
+
+def do_deed(house, deed):
+    return getattr(house, deed[0])(*deed[1:])
+
+
+def house_of(stacks):
+    """A house with sacks of the same hours and losses; their numbers are its own."""
+    house = House(len(stacks))
+    for at, stack in enumerate(stacks, start=1):
+        for number, hours, loss in reversed(stack):
+            house.put(at, hours, loss)
+    return house
+
+
+def chance_deed(chance, plain, hours, losses, words):
+    """A deed that is not refused on this plain house, or None where none is found soon."""
+    for turn in range(40):
+        word = chance.choice(words)
+        at = chance.randint(1, max(1, len(plain.stacks)))
+        deed = {
+            "put": ("put", at, chance.choice(hours), chance.choice(losses)),
+            "tell": ("tell", at, chance.randint(1, max(1, plain.height(at) or 0)), chance.choice(losses)),
+            "go": ("go", at),
+            "dry": ("dry",),
+        }[word]
+        if not plain.due(deed):
+            return deed
+    return None
+
+
+# Each row is a mixture of its own: even, a house that fills, one that is told anew, one that empties.
+MIXTURES = (
+    ("put", "tell", "go", "dry"),
+    ("put", "put", "put", "put", "tell", "go", "dry"),
+    ("put", "put", "tell", "tell", "tell", "tell", "dry"),
+    ("put", "put", "dry", "dry", "dry", "tell", "go"),
+    ("put", "put", "put", "dry"),
+)
+
+
+def chance_deeds(chance, many, length, hours, losses):
+    """A row of up to so many deeds of mixed kinds, none of which is refused."""
+    plain = PlainHouse(many)
+    words = chance.choice(MIXTURES)
+    while len(plain.kept) < length:
+        deed = chance_deed(chance, plain, hours, losses, words)
+        if deed is None:
+            break
+        plain.do(deed)
+    return plain.kept
+
+
+def chance_rows(seed, many, hours, losses, longest=60, most_stacks=5):
+    """Pairs of a number of stacks and a row of deeds that a new house with so many stacks does not refuse."""
+    chance = random.Random(seed)
+    for turn in range(many):
+        stacks = chance.randint(0, most_stacks)
+        yield stacks, chance_deeds(chance, stacks, chance.randint(0, longest), hours, losses)
+
+
+def ask_orders(house):
+    """What the house answers of a few orders, whole ones and such as are refused."""
+    stacks = house.stacks()
+    whole = some_order(stacks)
+    orders = (whole, whole[::-1], whole[1:], whole + [1], whole + [0], whole + [10 ** 30])
+    return [answer_of(house.against, order) for order in orders]
+
+
+def ask_lost(house):
+    hour = house.hour()
+    return [answer_of(house.lost, asked) for asked in [*range(-1, hour + 2), 10 ** 30, -10 ** 30]]
+
+
+def ask_all(house):
+    """What the house answers to every question, a refusal as its class."""
+    told = [house.stacks(), house.deeds(), house.hour(), house.order(), house.plan(), house.cost(), house.why(),
+            answer_of(house.every), house.stretches()]
+    return told + ask_orders(house) + ask_lost(house)

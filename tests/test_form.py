@@ -145,6 +145,27 @@ class FormTest(unittest.TestCase):
             if isinstance(node.func, ast.Attribute) and node.func.attr not in own:
                 self.assertIn(node.func.attr, METHODS_ALLOWED, place)
 
+    def test_methods_and_values_of_the_program_own_classes(self):
+        methods = [part.name for place, node in self.nodes(ast.ClassDef) for part in node.body
+                   if isinstance(part, ast.FunctionDef)]
+        values = [node.attr for place, node in self.nodes(ast.Attribute) if isinstance(node.ctx, ast.Store)]
+        self.assertEqual(set(methods) & set(values), set())
+        for kind in (str, int, list, tuple, dict, set, bytes):
+            self.assertEqual((set(methods) | set(values)) & set(dir(kind)), {"__init__"})
+
+    def test_each_method_stands_once_and_no_init_gives_back_anything(self):
+        for place, node in self.nodes(ast.ClassDef):
+            methods = [part for part in node.body if isinstance(part, ast.FunctionDef)]
+            self.assertEqual(len({part.name for part in methods}), len(methods), place)
+            for part in methods:
+                given = [inner for inner in ast.walk(part) if isinstance(inner, ast.Return)]
+                self.assertTrue(part.name != "__init__" or given == [], place)
+
+    def test_values_are_given_through_self_and_to_no_class(self):
+        for place, node in self.nodes(ast.Attribute):
+            if isinstance(node.ctx, ast.Store):
+                self.assertEqual(node.value.id, "self", place)
+
     def test_names_and_attributes_that_are_not_used(self):
         for place, node in self.nodes(ast.Name):
             self.assertNotIn(node.id, BARRED_NAMES, place)

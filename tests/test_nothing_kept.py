@@ -5,30 +5,17 @@ import unittest
 
 from rotstacks.blocks import stack_blocks
 from rotstacks.costs import least_cost, order_cost, order_plan, turned_pairs
-from rotstacks.errors import RotError
+from rotstacks.drying import dry_on
 from rotstacks.every import all_orders, least_of_all
+from rotstacks.losses import lost_by
 from rotstacks.orders import block_turns, told_order
 from rotstacks.reasons import why_least, why_more
-from tests.stack_makers import all_houses, chance_houses, chance_orders, make_stacks, some_order
+from tests.stack_makers import (
+    all_houses, answer_of, chance_houses, chance_orders, lists_within, make_stacks, some_order,
+)
 
-OF_STACKS = (block_turns, told_order, least_cost, why_least, all_orders, least_of_all)
+OF_STACKS = (block_turns, told_order, least_cost, why_least, all_orders, least_of_all, dry_on)
 OF_STACKS_AND_ORDER = (order_plan, order_cost, turned_pairs, why_more)
-
-
-def answer_of(function, arguments):
-    try:
-        return function(*arguments)
-    except RotError as refusal:
-        return type(refusal).__name__
-
-
-def lists_within(value):
-    """Each list in the value, itself among them, as often as it stands there."""
-    found = [value] if isinstance(value, list) else []
-    if isinstance(value, (list, tuple)):
-        for part in value:
-            found += lists_within(part)
-    return found
 
 
 def calls(stacks, order):
@@ -38,13 +25,16 @@ def calls(stacks, order):
         yield function, (stacks, order)
     for stack in stacks:
         yield stack_blocks, (stack,)
+    stretches = [(begun, dry, begun + dry) for number, at, begun, dry in order_plan(stacks, some_order(stacks))]
+    for hour in (-1, 0, 1, 5, 10 ** 30):
+        yield lost_by, (stretches, hour)
 
 
 class NothingKept(unittest.TestCase):
     def check(self, stacks, order):
         for function, arguments in calls(stacks, order):
             before = copy.deepcopy(arguments)
-            answers = [answer_of(function, arguments) for turn in range(2)]
+            answers = [answer_of(function, *arguments) for turn in range(2)]
             self.assertEqual(arguments, before, function.__name__)
             self.assertEqual(answers[0], answers[1], function.__name__)
             self.check_lists_are_unshared(function, arguments, answers)
@@ -63,7 +53,7 @@ class NothingKept(unittest.TestCase):
             found.clear()
             found.append("changed")
         self.assertEqual(answers[1], wanted, function.__name__)
-        self.assertEqual(answer_of(function, arguments), wanted, function.__name__)
+        self.assertEqual(answer_of(function, *arguments), wanted, function.__name__)
 
     def test_examples(self):
         examples = ([], [[]], [[], []], [[(3, 7)]], [[(1, 0), (1, 20)], [(1, 9)]], [[(2, 4), (3, 6)], [], [(1, 2)]])

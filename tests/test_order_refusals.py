@@ -5,10 +5,16 @@ import unittest
 from rotstacks.costs import order_cost, order_plan, turned_pairs
 from rotstacks.errors import EmptyStack, ShortOrder, UnknownStack
 from rotstacks.reasons import why_more
-from tests.stack_makers import all_heights, chance_houses, chance_orders, make_stacks
+from tests.stack_makers import all_heights, chance_houses, chance_orders, house_of, make_stacks
 
-HANDED_AN_ORDER = (order_plan, order_cost, turned_pairs, why_more)
-UNKNOWN = (0, -1, -2, -5, 10 ** 12, -10 ** 12, 10 ** 5000, -10 ** 5000)
+
+
+def against(stacks, order):
+    return house_of(stacks).against(order)
+
+
+HANDED_AN_ORDER = (order_plan, order_cost, turned_pairs, why_more, against)
+UNKNOWN = (0, -1, -2, -5, 10 ** 30, -10 ** 30, 10 ** 5000, -10 ** 5000)
 
 
 def wanted_refusal(stacks, order):

@@ -3,14 +3,7 @@ from fractions import Fraction
 
 from rotstacks.blocks import stack_blocks
 from rotstacks.orders import block_turns, told_order
-from tests.stack_makers import all_houses, chance_houses, make_stacks, parted, some_order, sums
-
-
-def wanted_turns(stacks):
-    """The turns by the words of the document, of blocks that were found another way."""
-    blocks = [(at, part) for at, stack in enumerate(stacks, start=1) for part in parted(stack)]
-    told = [(at, len(part)) + sums(part) for at, part in blocks]
-    return sorted(told, key=lambda turn: (-Fraction(turn[3], turn[2]), turn[0]))
+from tests.stack_makers import all_houses, chance_houses, make_stacks, some_order, sums, turns_by_words
 
 
 class OrdersTest(unittest.TestCase):
@@ -46,7 +39,7 @@ class OrdersTest(unittest.TestCase):
         turns = block_turns(stacks)
         self.check_runs_of_each_stack(stacks, turns)
         self.check_falling(stacks, turns)
-        self.assertEqual(turns, wanted_turns(stacks), stacks)
+        self.assertEqual(turns, turns_by_words(stacks), stacks)
         order = told_order(stacks)
         self.assertEqual(order, [at for at, many, hours, loss in turns for place in range(many)], stacks)
         self.assertEqual(sorted(order), some_order(stacks), stacks)

@@ -1,6 +1,8 @@
 import unittest
 
-from rotstacks.sacks import sack_hours, sack_loss, sack_number, sack_share, sacks_in_all
+from rotstacks.sacks import (
+    loss_in_all, sack_hours, sack_loss, sack_number, sack_share, sacks_in_all, top_sack, with_stack, without_top,
+)
 
 
 class SacksTest(unittest.TestCase):
@@ -27,6 +29,20 @@ class SacksTest(unittest.TestCase):
         self.assertEqual(sacks_in_all([]), 0)
         self.assertEqual(sacks_in_all([[], []]), 0)
         self.assertEqual(sacks_in_all([[(7, 12, 35)], [], [(1, 1, 0), (60, 60, 100)]]), 3)
+
+    def test_loss_in_all(self):
+        self.assertEqual(loss_in_all([]), 0)
+        self.assertEqual(loss_in_all([[], []]), 0)
+        self.assertEqual(loss_in_all([[(7, 12, 35)], [], [(1, 1, 0), (60, 60, 100)]]), 135)
+
+    def test_one_stack_among_others(self):
+        stacks = [[(7, 12, 35)], [], [(1, 1, 0), (60, 60, 100)]]
+        self.assertEqual(top_sack(stacks, 1), (7, 12, 35))
+        self.assertEqual(top_sack(stacks, 3), (1, 1, 0))
+        self.assertEqual(without_top(stacks, 1), [[], [], [(1, 1, 0), (60, 60, 100)]])
+        self.assertEqual(without_top(stacks, 3), [[(7, 12, 35)], [], [(60, 60, 100)]])
+        self.assertEqual(with_stack(stacks, 2, [(8, 2, 2)]), [[(7, 12, 35)], [(8, 2, 2)], [(1, 1, 0), (60, 60, 100)]])
+        self.assertEqual(stacks, [[(7, 12, 35)], [], [(1, 1, 0), (60, 60, 100)]])
 
 
 if __name__ == "__main__":
