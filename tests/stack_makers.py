@@ -282,7 +282,9 @@ def chance_rows(seed, many, hours, losses, longest=60, most_stacks=5):
     chance = random.Random(seed)
     for turn in range(many):
         stacks = chance.randint(0, most_stacks)
-        yield stacks, chance_deeds(chance, stacks, chance.randint(0, longest), hours, losses)
+        # Drawn beyond the longest, so that many a row has just that length.
+        length = min(longest, chance.randint(0, 2 * longest))
+        yield stacks, chance_deeds(chance, stacks, length, hours, losses)
 
 
 def ask_orders(house):

@@ -135,13 +135,13 @@ class AgainAndAgain(BackTest):
 
     def test_at_sixty_deeds_of_mixed_kinds(self):
         tried = 0
-        for many, deeds in chance_rows(143, 900, (1, 2, 3), (0, 1, 2, 100)):
+        for many, deeds in chance_rows(143, 100, (1, 2, 3), (0, 1, 2, 100)):
             if len(deeds) == 60:
                 tried += 1
                 house = walked(many, deeds)
                 self.assertEqual(house.back(), deeds[-1])
                 self.check_further(house, walked(many, deeds[:-1]), (many, deeds))
-        self.assertGreater(tried, 8)
+        self.assertGreater(tried, 20)
 
 
 class FurtherDeeds(BackTest):

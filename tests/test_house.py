@@ -200,7 +200,7 @@ class MixedDeeds(unittest.TestCase):
 
     def test_the_rows_are_long_and_mixed(self):
         rows = [deeds for many, deeds in chance_rows(121, 120, range(1, 61), range(0, 101))]
-        self.assertGreater(len([deeds for deeds in rows if len(deeds) > 40]), 20)
+        self.assertGreater(len([deeds for deeds in rows if len(deeds) == 60]), 20)
         self.assertGreater(len([deeds for deeds in rows if len({deed[0] for deed in deeds}) == 4]), 40)
 
     def test_a_sack_keeps_its_number_and_its_hours_for_as_long_as_it_waits(self):
